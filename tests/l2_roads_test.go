@@ -659,13 +659,18 @@ type bagOf struct {
 
 // leastTimes returns the least time for each set of visited places at which a walk from a place can have it.
 func leastTimes(r impl.Road, a int) map[int]int {
+	return leastTimesAt(r, a, func(int) bool { return true })
+}
+
+// leastTimesAt returns the least time for each set of visited places at which a walk from a place can have it and be at a place where it may end.
+func leastTimesAt(r impl.Road, a int, mayEnd func(p int) bool) map[int]int {
 	seen := map[bagOf]bool{{a, 1 << a}: true}
 	times := map[int]int{}
 	layer := []bagOf{{a, 1 << a}}
 	for time := 0; len(layer) > 0; time++ {
 		next := []bagOf{}
 		for _, b := range layer {
-			if _, known := times[b.visited]; !known {
+			if _, known := times[b.visited]; !known && mayEnd(b.place) {
 				times[b.visited] = time
 			}
 			for q := range r.Size {

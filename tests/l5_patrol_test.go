@@ -793,7 +793,7 @@ func checkNoPatrol(t *testing.T, r impl.Road, rounds [][]int) {
 	wantNoRounds(t, "BackPatrol", back, ok)
 }
 
-// TestPatrolsAreKeptApart changes results, list by list, and looks whether arguments, later results or other lists have changed with them.
+// TestPatrolsAreKeptApart changes results, and looks whether arguments, later results or other lists have changed with them.
 func TestPatrolsAreKeptApart(t *testing.T) {
 	r := ring(4)
 	long := []int{77, 0, 1, 2, 3, 88, 3, 2, 2, 3, 99}
@@ -814,6 +814,17 @@ func TestPatrolsAreKeptApart(t *testing.T) {
 		"MirrorPatrol":         func() ([][]int, bool) { return impl.MirrorPatrol(r, b) },
 		"BackPatrol":           func() ([][]int, bool) { return impl.BackPatrol(r, b) },
 	}
+	checkKeptApart(t, calls)
+	impl.IsPatrol(r, a)
+	impl.PauseOf(r, b)
+	if !slices.Equal(long, before) || !reflect.DeepEqual(a, [][]int{before[1:5], before[1:5]}) || !reflect.DeepEqual(b, [][]int{before[6:10], before[1:5], before[6:10]}) {
+		t.Error("arguments have changed:", long, a, b)
+	}
+}
+
+// checkKeptApart changes the lists of each call, one by one, and looks whether other lists or later results have changed with them.
+func checkKeptApart(t *testing.T, calls map[string]func() ([][]int, bool)) {
+	t.Helper()
 	for name, call := range calls {
 		want, ok := call()
 		got, again := call()
@@ -827,10 +838,5 @@ func TestPatrolsAreKeptApart(t *testing.T) {
 		}
 		got, ok = call()
 		wantRounds(t, name, got, ok, want)
-	}
-	impl.IsPatrol(r, a)
-	impl.PauseOf(r, b)
-	if !slices.Equal(long, before) || !reflect.DeepEqual(a, [][]int{before[1:5], before[1:5]}) || !reflect.DeepEqual(b, [][]int{before[6:10], before[1:5], before[6:10]}) {
-		t.Error("arguments have changed:", long, a, b)
 	}
 }
