@@ -467,7 +467,7 @@ func TestFirstOrderKnown(t *testing.T) {
 		{"either order", line(5), []int{2, 2}, []int{2, 2}, false, 0, []int{0, 1}, true}, {"just the other order", line(5), []int{4, 0}, []int{1, 2}, false, 0, []int{1, 0}, true}, {"no order", line(5), []int{4, 0}, []int{1, 1}, false, 0, nil, false}, {"none with return", line(5), []int{2, 2}, []int{4, 3}, true, 0, nil, false},
 		{"with return", line(5), []int{2, 2}, []int{4, 4}, true, 0, []int{0, 1}, true}, {"one alone", line(5), []int{2}, []int{6}, false, 0, []int{0}, true}, {"one alone has too little time", line(5), []int{2}, []int{5}, false, 0, nil, false}, {"the first takes all", line(5), []int{2, 0}, []int{6, 0}, false, 0, []int{0, 1}, true},
 		{"one with no time takes its own place", line(5), []int{2, 0}, []int{5, 0}, false, 0, []int{1, 0}, true}, {"no time at all", line(2), []int{1, 0}, []int{0, 0}, true, 0, []int{1, 0}, true}, {"just one order of three", line(6), []int{3, 5, 1}, []int{1, 1, 1}, false, 0, []int{2, 0, 1}, true},
-		{"a ring from 0 on", ring(4), []int{1, 3}, []int{1, 1}, false, 0, []int{0, 1}, true}, {"a ring from elsewhere on", ring(3), []int{1, 2}, []int{0, 1}, false, 1, []int{0, 1}, true}, {"just one begin", ring(6), []int{0, 3}, []int{4, 2}, false, 0, []int{0, 1}, true}, {"no begin", ring(6), []int{0, 3}, []int{1, 2}, false, 0, nil, false},
+		{"a ring from 0 on", ring(4), []int{1, 3}, []int{1, 1}, false, 0, []int{0, 1}, true}, {"a ring from elsewhere on", ring(3), []int{1, 2}, []int{0, 1}, false, 1, []int{0, 1}, true}, {"many begins and orders", ring(6), []int{0, 3}, []int{4, 2}, false, 0, []int{0, 1}, true}, {"no begin", ring(6), []int{0, 3}, []int{1, 2}, false, 0, nil, false},
 		{"round the ring", ring(6), []int{4}, []int{5}, false, 0, []int{0}, true}, {"round the ring and back", ring(6), []int{4}, []int{6}, true, 0, []int{0}, true}, {"not back in time", ring(6), []int{4}, []int{5}, true, 0, nil, false}, {"four", ring(24), []int{0, 6, 12, 18}, []int{5, 5, 5, 5}, false, 0, []int{0, 1, 2, 3}, true},
 	}
 	for _, k := range known {
@@ -478,6 +478,22 @@ func TestFirstOrderKnown(t *testing.T) {
 		if !k.back {
 			wantCan(t, k.road, k.starts, k.budgets, k.can, true)
 		}
+	}
+}
+
+// TestJustOneOrder takes explorers that visit all places in one order only, which is not the first one of all.
+func TestJustOneOrder(t *testing.T) {
+	for order, k := range map[[3]int][3][]int{{2, 0, 1}: {{3, 5, 1}, {1, 1, 1}}, {1, 2, 0}: {{5, 0, 3}, {2, 1, 1}}, {2, 1, 0}: {{5, 3, 1}, {0, 3, 1}}} {
+		ways := 0
+		for _, other := range ordersOf(3) {
+			if _, left := takenByWords(line(6), k[0], k[1], 0, other, false); left == 0 {
+				ways++
+			}
+		}
+		if ways != 1 {
+			t.Errorf("explorers at %v with %v visit all places in %d orders", k[0], k[1], ways)
+		}
+		wantOrder(t, line(6), k[0], k[1], false, 0, order[:], true)
 	}
 }
 
